@@ -1,6 +1,7 @@
 """Holds the package to those rules of its language that can be seen without knowing what the code means."""
 
 import ast
+import builtins
 import pathlib
 import re
 import unittest
@@ -27,6 +28,18 @@ BANNED_NODES = (
 )
 
 
+PYTHONS_METHODS = (
+    "append clear copy count endswith extend find get index insert isalnum isalpha isdigit islower isspace isupper "
+    "items join keys ljust lower lstrip partition pop remove replace reverse rfind rjust rpartition rsplit rstrip "
+    "setdefault split splitlines startswith strip update upper values zfill bit_length"
+).split()
+BANNED_NAMES = (
+    "register mro elements open input version_info with_traceback add_note attrgetter breakpoint builtins compile "
+    "copyright credits delattr dir eval exec exit gc getattr globals hasattr help id importlib license locals "
+    "methodcaller os quit setattr super vars sys"
+).split()
+
+
 def files():
     return sorted(path for path in PACKAGE.rglob("*") if path.is_file() and "__pycache__" not in path.parts)
 
@@ -50,6 +63,29 @@ def bound_names(tree):
         elif isinstance(node, ast.ExceptHandler) and node.name:
             names.add(node.name)
     return names
+
+
+def classes():
+    return [(path, node) for path, tree in trees() for node in ast.walk(tree) if isinstance(node, ast.ClassDef)]
+
+
+def method_names():
+    """Every method of the package's classes."""
+    return {part.name for path, node in classes() for part in node.body if isinstance(part, ast.FunctionDef)}
+
+
+def value_names():
+    """Every value that some object is given."""
+    names = set()
+    for path, tree in trees():
+        for node in ast.walk(tree):
+            if isinstance(node, ast.Attribute) and isinstance(node.ctx, ast.Store):
+                names.add(node.attr)
+    return names
+
+
+def drawn_modules(tree):
+    return {node.module for node in ast.walk(tree) if isinstance(node, ast.ImportFrom)}
 
 
 class LanguageTest(unittest.TestCase):
@@ -112,6 +148,86 @@ class LanguageTest(unittest.TestCase):
             for node in ast.walk(tree):
                 if isinstance(node, ast.Name) and isinstance(node.ctx, ast.Load):
                     self.assertTrue(node.id in bound or node.id in BUILT_IN, (path, node.id, node.lineno))
+
+    def test_no_name_of_pythons_workings(self):
+        for path, tree in trees():
+            for node in ast.walk(tree):
+                for name in (getattr(node, "id", ""), getattr(node, "attr", ""), getattr(node, "name", "")):
+                    self.assertNotIn(name, BANNED_NAMES, path)
+
+    def test_is_stands_beside_none_true_and_false_alone(self):
+        for path, tree in trees():
+            for node in ast.walk(tree):
+                if isinstance(node, ast.Compare) and any(isinstance(op, (ast.Is, ast.IsNot)) for op in node.ops):
+                    self.assertIsInstance(node.comparators[0], ast.Constant, (path, node.lineno))
+
+    def test_parameters_and_locals_are_not_called_like_a_class_or_an_import(self):
+        for path, tree in trees():
+            top = {node.name for node in tree.body if isinstance(node, ast.ClassDef)}
+            for node in tree.body:
+                if isinstance(node, ast.ImportFrom):
+                    top.update(alias.name for alias in node.names)
+            for node in ast.walk(tree):
+                if isinstance(node, ast.arg):
+                    self.assertNotIn(node.arg, top | set(dir(builtins)), path)
+                if isinstance(node, ast.Name) and isinstance(node.ctx, ast.Store):
+                    self.assertNotIn(node.id, top | set(dir(builtins)), path)
+
+    def test_no_annotations(self):
+        for path, tree in trees():
+            for node in ast.walk(tree):
+                self.assertNotIsInstance(node, ast.AnnAssign, path)
+                self.assertIsNone(getattr(node, "annotation", None), path)
+                self.assertIsNone(getattr(node, "returns", None), path)
+
+    def test_classes_hold_methods_alone(self):
+        for path, node in classes():
+            self.assertEqual(node.decorator_list, [], (path, node.name))
+            self.assertLessEqual(len(node.bases), 1)
+            for part in node.body:
+                self.assertIsInstance(part, (ast.FunctionDef, ast.Pass), (path, node.name))
+            names = [part.name for part in node.body if isinstance(part, ast.FunctionDef)]
+            self.assertEqual(len(names), len(set(names)), (path, node.name))
+
+    def test_no_name_is_a_method_here_and_a_value_there(self):
+        self.assertEqual(method_names() & value_names(), set())
+
+    def test_methods_and_values_are_not_called_like_pythons_own(self):
+        pythons = set()
+        for kind in (str, int, list, tuple, dict, set, frozenset, bytes):
+            pythons.update(name for name in dir(kind) if not name.startswith("__"))
+        self.assertEqual((method_names() | value_names()) & pythons, set())
+
+    def test_each_method_called_is_the_packages_own_or_a_free_one_of_pythons(self):
+        free = method_names() | set(PYTHONS_METHODS)
+        for path, tree in trees():
+            for node in ast.walk(tree):
+                if isinstance(node, ast.Call) and isinstance(node.func, ast.Attribute):
+                    self.assertIn(node.func.attr, free, (path, node.lineno))
+
+    def test_no_two_files_draw_from_one_another(self):
+        draws = {"threadlathe." + path.stem: drawn_modules(tree) for path, tree in trees()}
+        settled = set()
+        while draws:
+            ready = [module for module in draws if draws[module] <= settled]
+            self.assertTrue(ready, draws)
+            for module in ready:
+                settled.add(module)
+                draws.pop(module)
+
+    def test_a_name_is_drawn_from_the_file_that_defines_it(self):
+        defined = {}
+        for path, tree in trees():
+            names = {node.name for node in tree.body if isinstance(node, (ast.FunctionDef, ast.ClassDef))}
+            for node in tree.body:
+                if isinstance(node, ast.Assign):
+                    names.add(node.targets[0].id)
+            defined["threadlathe." + path.stem] = names
+        for path, tree in trees():
+            for node in ast.walk(tree):
+                if isinstance(node, ast.ImportFrom):
+                    for alias in node.names:
+                        self.assertIn(alias.name, defined[node.module], path)
 
 
 if __name__ == "__main__":
